@@ -204,6 +204,9 @@ func TestUses(t *testing.T) {
 		{say(audit.FreeSlots(reading())), "[3 4 5 6 7] ok"},
 	})
 	s = rich()
+	s.Pending = append(s.Pending, api.Pending{Slot: 7, Frame: 30}, api.Pending{Write: true, Slot: 7, Frame: 31})
+	expect(t, [][2]string{{say(audit.FreeSlots(s)), "[3 4 5 6] ok"}})
+	s = rich()
 	s.Slots[0], s.Slots[3], s.Procs[0].Entries[5] = 0, 9, pack("s5")
 	expect(t, [][2]string{{say(audit.FreeSlots(s)), "[3 4 6 7] ok"}})
 }
@@ -310,6 +313,12 @@ func TestViolations(t *testing.T) {
 		{"9:0.0.3", func(s *api.Snapshot) { s.Requests[1].State = api.Holds }},
 		{"1:9.0.0 9:0.0.3", func(s *api.Snapshot) { s.Requests[1].Frames = []int{9} }},
 		{"9:0.0.0", func(s *api.Snapshot) { s.Awake = true }},
+		{"1:9.0.0 8:0.0.8", func(s *api.Snapshot) { s.Procs[7].Root, s.Procs[7].Leaves[5] = 9, 9 }},
+		{"1:20.0.0 1:21.0.0 1:22.0.0 2:20.0.0 2:21.0.0 2:22.0.0 3:20.0.1 3:21.0.1 3:22.0.1 3:20.0.2 3:21.0.2 3:22.0.2", func(s *api.Snapshot) {
+			for i, w := range []string{"p22w", "p20w", "p21w"} {
+				s.Procs[0].Entries[5+i], s.Procs[1].Entries[7-i] = pack(w), pack(w)
+			}
+		}},
 	} {
 		s := rich()
 		c.change(&s)
@@ -317,6 +326,29 @@ func TestViolations(t *testing.T) {
 			t.Errorf("%d: %s, not %s", i, got, want)
 		}
 		parts(t, s)
+	}
+}
+
+// P41.2: BadWrite, where a read is under way for a request.
+
+func TestReads(t *testing.T) {
+	for i, c := range []struct {
+		want   string
+		change func(s *api.Snapshot)
+	}{
+		{"ok", func(s *api.Snapshot) {}},
+		{"6:0.0.0 ok", func(s *api.Snapshot) { s.Requests[0].Slot = 1 }},
+		{"6:0.0.0 ok", func(s *api.Snapshot) { s.Requests[0].State = api.Holds }},
+		{"1:15.0.0 6:0.0.0 ok", func(s *api.Snapshot) { s.Requests[0].Frames = nil }},
+		{"1:15.0.0 1:16.0.0 6:0.0.0 ok", func(s *api.Snapshot) { s.Requests[0].Frames = []int{16} }},
+		{"6:0.0.0 ok", func(s *api.Snapshot) { s.Pending = s.Pending[1:] }},
+		{"6:0.0.0 ok", func(s *api.Snapshot) { s.Requests[0].State = api.Claims }},
+	} {
+		s := reading()
+		c.change(&s)
+		if got := found(audit.All(s)); got != c.want {
+			t.Errorf("%d: %s, not %s", i, got, c.want)
+		}
 	}
 }
 
@@ -392,7 +424,7 @@ func some(r *rand.Rand) api.Command {
 func TestKernels(t *testing.T) {
 	for seed := range uint64(12) {
 		r := rand.New(rand.NewPCG(seed, 41))
-		c := []api.Config{config, {Frames: 24, Low: 6, Slots: 6, Cap: 1, Queue: 2, Min: 2, LowMark: 4, High: 8, MapCap: 64}, {Frames: 30, Low: 20, Slots: 20, Cap: 3, Queue: 9, Min: 5, LowMark: 9, High: 14, MapCap: 64}}[seed%3]
+		c := []api.Config{config, {Frames: 24, Low: 6, Slots: 6, Cap: 1, Queue: 2, Min: 2, LowMark: 4, High: 8, MapCap: 64}, {Frames: 30, Low: 20, Slots: 20, Cap: 3, Queue: 8, Min: 5, LowMark: 9, High: 14, MapCap: 64}}[seed%3]
 		k, _ := kernel.New(c)
 		for range 300 {
 			cmd := some(r)

@@ -222,6 +222,7 @@ func TestShrink(t *testing.T) {
 				}
 			}
 		}
+		expect(t, [][2]string{{say(bench.Shrink(x, api.Refused, 8)), " {missing 0}"}, {say(bench.Shrink(x, api.Mapped, 8)), " {missing 0}"}})
 		for _, n := range []int{0, 12, -1, math.MinInt, math.MaxInt} {
 			expect(t, [][2]string{{say(bench.Shrink(x, n, 99)), " {kind 0}"}})
 		}

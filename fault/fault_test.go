@@ -153,6 +153,9 @@ func TestCheck(t *testing.T) {
 		return r
 	}
 	w, spawn, fork, read := req(api.DoWrite, 1), req(api.DoSpawn, 1), req(api.DoFork, 1), req(api.DoRead, 1)
+	for _, c := range []api.Command{{Kind: api.DoRead, Proc: 1}, {Kind: api.DoWrite, Proc: 8, A: 63, B: 7, Value: math.MaxUint64}, {Kind: api.DoWrite, Proc: 1}, {Kind: api.DoSpawn, Proc: 1}, {Kind: api.DoSpawn, Proc: 8}, {Kind: api.DoFork, Proc: 1, A: 8}, {Kind: api.DoFork, Proc: 8, A: 1}} {
+		expect(t, [][2]string{{say(fault.Check(api.Request{Ticket: 1, Command: c, State: api.Wants})), "ok"}})
+	}
 	for _, n := range []uint64{0, api.MaxTickets + 1, math.MaxUint64} {
 		refused(t, with(w, func(r *api.Request) { r.Ticket = n; r.Command.Kind = 0 }), api.ErrRange)
 	}

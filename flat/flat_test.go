@@ -330,6 +330,30 @@ func TestNewCheck(t *testing.T) {
 	}
 }
 
+// P29.3, P29.4: the bounds of pages and words.
+
+func TestBounds(t *testing.T) {
+	m, _ := flat.Spawn(flat.New(), 1)
+	m, _ = flat.Map(m, 1, 60, 63)
+	for _, n := range append([]int{64, 8}, far...) {
+		expect(t, [][2]string{{say(flat.Write(m, 1, 63, n, 1)), none + " range"}, {say(flat.Read(m, 1, 63, n)), "0 range"}})
+		if n == 8 {
+			continue
+		}
+		expect(t, [][2]string{
+			{say(flat.Map(m, 1, 9, n)), none + " range"},
+			{say(flat.Map(m, 1, n, 9)), none + " range"},
+			{say(flat.Map(m, 1, n, n)), none + " range"},
+			{say(flat.Unmap(m, 1, 60, n)), none + " range"},
+			{say(flat.Unmap(m, 1, n, 63)), none + " range"},
+			{say(flat.Write(m, 1, n, 0, 1)), none + " range"},
+			{say(flat.Read(m, 1, n, 0)), "0 range"},
+			{say(flat.Page(m, 1, n)), say(api.Content{}, "range")},
+		})
+	}
+	expect(t, [][2]string{{say(flat.Map(m, 2, 9, 64)), none + " dead"}, {say(flat.Map(m, 9, 9, 64)), none + " range"}})
+}
+
 // P29.9
 
 func TestTheoremOrder(t *testing.T) {

@@ -38,6 +38,7 @@ var configs = []api.Config{
 	{Frames: 30, Low: 1, Slots: 40, Cap: 3, Queue: 9, Min: 5, LowMark: 9, High: 16, MapCap: 64},
 	{Frames: 64, Low: 20, Slots: 64, Cap: 10, Queue: 17, Min: 11, LowMark: 20, High: 40, MapCap: 50},
 	{Frames: 18, Low: 9, Slots: 1, Cap: 1, Queue: 2, Min: 2, LowMark: 3, High: 5, MapCap: 64},
+	{Frames: 18, Low: 5, Slots: 60, Cap: 1, Queue: 2, Min: 2, LowMark: 3, High: 5, MapCap: 64},
 }
 
 // made returns a kernel.
@@ -113,11 +114,11 @@ func aim(r *rand.Rand, s api.Snapshot, c api.Command) api.Command {
 
 func TestSteps(t *testing.T) {
 	seen := map[int]int{}
-	for seed := range uint64(36) {
-		c := configs[seed%6]
+	for seed := range uint64(42) {
+		c := configs[seed%7]
 		k, m := made(t, c), newMachine(c)
 		r := rand.New(rand.NewPCG(seed, 37))
-		procs := 2 + int(seed/6)%7
+		procs := 8 - int(seed/7)%7
 		for range 500 {
 			before := k.Snapshot()
 			cmd := aim(r, before, some(r, procs))
@@ -138,7 +139,7 @@ func TestSteps(t *testing.T) {
 		}
 	}
 	for kind := api.Mapped; kind <= api.Refused; kind++ {
-		if seen[kind] < 5 {
+		if seen[kind] < 2 {
 			t.Error("an outcome is hardly tried:", kind, seen)
 		}
 	}
@@ -206,13 +207,13 @@ func TestNotValid(t *testing.T) {
 // P37.2
 
 func TestRun(t *testing.T) {
-	for seed := range uint64(12) {
+	for seed := range uint64(14) {
 		r := rand.New(rand.NewPCG(seed, 38))
 		var l []api.Command
 		for range 200 {
 			l = append(l, some(r, 4))
 		}
-		k, one := made(t, configs[seed%6]), made(t, configs[seed%6])
+		k, one := made(t, configs[seed%7]), made(t, configs[seed%7])
 		var want []api.Outcome
 		failed := 0
 		for _, c := range l {
@@ -228,12 +229,103 @@ func TestRun(t *testing.T) {
 	}
 }
 
+// both does the same with a kernel and with a machine, and compares them.
+type both struct {
+	t *testing.T
+	k *kernel.Kernel
+	m *machine
+}
+
+func newBoth(t *testing.T, c api.Config) both { return both{t, made(t, c), newMachine(c)} }
+
+// step does a command.
+func (b both) step(kind, proc, x, y int) {
+	b.t.Helper()
+	cmd := api.Command{Kind: kind, Proc: proc, A: x, B: y}
+	got, err := b.k.Step(cmd)
+	want, wantErr := b.m.step(cmd)
+	expect(b.t, [][2]string{{say(got, err), say(want, wantErr)}, {say(b.k.Snapshot()), say(b.m.snapshot())}})
+}
+
+// serve picks a process until it does not wait any more, at most n times.
+func (b both) serve(proc, n int) {
+	b.t.Helper()
+	for range n {
+		if w := b.k.Waiting(); len(w) > 0 && w[0] == proc {
+			b.step(api.DoPick, proc, 0, 0)
+		}
+	}
+}
+
+// P37.7: a kill waits for the read of an Orphan.
+
+func TestOrphan(t *testing.T) {
+	b := newBoth(t, api.Config{Frames: 18, Low: 9, Slots: 1, Cap: 1, Queue: 2, Min: 2, LowMark: 3, High: 5, MapCap: 64})
+	// fill writes pages until only the reserve is left, and returns the next page, which has a leaf already.
+	fill := func(proc int) (page int) {
+		t.Helper()
+		b.step(api.DoSpawn, proc, 0, 0)
+		b.serve(proc, 9)
+		b.step(api.DoMap, proc, 0, 31)
+		for ; b.k.Free() > 2; page++ {
+			b.step(api.DoWrite, proc, page, 1)
+			b.serve(proc, 9)
+		}
+		return page
+	}
+	b.step(api.DoWrite, 1, fill(1), 1)
+	b.serve(1, 3)
+	b.step(api.DoComplete, 0, 0, 0)
+	b.serve(1, 9)
+	s := b.k.Snapshot()
+	swapped := slices.IndexFunc(s.Procs[0].Entries[:], func(w uint64) bool { return w%4 == api.Swapped })
+	if swapped < 0 || len(s.Requests) > 0 {
+		t.Fatal(s)
+	}
+	b.step(api.DoUnmap, 1, 5, 6)
+	b.step(api.DoRead, 1, swapped, 0)
+	b.serve(1, 2)
+	b.step(api.DoKill, 1, 0, 0)
+	if !slices.Contains(b.k.Snapshot().Roles, api.Orphan) {
+		t.Fatal(b.k.Snapshot())
+	}
+	b.step(api.DoWrite, 2, fill(2), 1)
+	b.serve(2, 5)
+	if w := b.k.Waiting(); len(w) != 1 {
+		t.Fatal("no kill as long as there is an Orphan:", w)
+	}
+	b.step(api.DoComplete, 0, 0, 0)
+	b.serve(2, 5)
+}
+
+// P37.2: as many objects as there may be, and how they go again.
+
+func TestHoard(t *testing.T) {
+	c := api.Config{Frames: 256, Low: 100, Slots: 4, Cap: 1, Queue: 8, Min: 2, LowMark: 3, High: 200, MapCap: 64}
+	b := newBoth(t, c)
+	for n := range 260 {
+		b.step(api.DoHoard, 0, 1+n*n%3, 0)
+	}
+	if o := b.k.Snapshot().Objects; o[0]+o[1]+o[2] != api.MaxObjects {
+		t.Error(o)
+	}
+	b.step(api.DoSpawn, 1, 0, 0)
+	b.step(api.DoRounds, 0, 2, 0)
+	for page := range 60 {
+		if page%8 == 0 {
+			b.step(api.DoMap, 1, page, min(63, page+7))
+		}
+		b.step(api.DoWrite, 1, page, 1)
+		b.step(api.DoRounds, 0, 4, 0)
+	}
+}
+
 // P37.8, and that no result shares memory with a kernel.
 
 func TestCopy(t *testing.T) {
-	for seed := range uint64(18) {
+	for seed := range uint64(14) {
 		r := rand.New(rand.NewPCG(seed, 39))
-		k := made(t, configs[seed%6])
+		k := made(t, configs[seed%7])
 		for range 300 {
 			k.Step(aim(r, k.Snapshot(), some(r, 4)))
 		}
@@ -292,8 +384,8 @@ func scribble(k *kernel.Kernel) {
 
 func TestTheorems(t *testing.T) {
 	kills := 0
-	for seed := range uint64(30) {
-		c := configs[seed%6]
+	for seed := range uint64(28) {
+		c := configs[seed%7]
 		k := made(t, c)
 		r := rand.New(rand.NewPCG(seed, 40))
 		memory := flat.New()

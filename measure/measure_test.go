@@ -269,7 +269,7 @@ func base(t *testing.T, r api.Request) api.Snapshot {
 
 func TestHeads(t *testing.T) {
 	for _, kind := range []int{0, api.DoSpawn, api.DoMap, api.DoRead, api.DoWrite, api.DoFork, api.DoKill} {
-		for _, a := range []int{-1, 0, 2, 9, 63, 64} {
+		for _, a := range []int{-1, 0, 2, 8, 9, 63, 64} {
 			for _, state := range []int{api.Wants, api.Holds, api.Claims, api.Reading} {
 				for _, frames := range [][]int{nil, {30}, {30, 31, 32}} {
 					for _, word := range []string{"-", "p39c", "p39w", "s3", "s4"} {
@@ -300,6 +300,43 @@ func TestHeads(t *testing.T) {
 				}
 			}
 		}
+	}
+}
+
+// P42.2: whether a frame can be written out, where the head could only wait.
+
+func TestWritable(t *testing.T) {
+	for seed := range uint64(1500) {
+		r := rand.New(rand.NewPCG(seed, 45))
+		s := base(t, api.Request{Ticket: 9, Command: api.Command{Kind: api.DoSpawn}, State: api.Wants})
+		left := s.Config.Min + r.IntN(2)
+		for f, role := range s.Roles {
+			if role != api.Free {
+				continue
+			}
+			if left--; left < 0 {
+				s.Roles[f] = []int{api.Reserved, api.Orphan}[r.IntN(2)]
+			}
+		}
+		switch r.IntN(3) {
+		case 0:
+			s.Active, s.Inactive = nil, s.Active
+		case 1:
+			s.Active = nil
+		}
+		for n := range s.Slots {
+			s.Slots[n] = 1
+		}
+		slot := r.IntN(8)
+		s.Slots[slot] = r.IntN(2)
+		for range r.IntN(4) {
+			s.Writes = append(s.Writes, api.WriteView{Slot: []int{slot, 1}[r.IntN(2)], Frame: r.IntN(40)})
+		}
+		for range r.IntN(6) {
+			s.Pending = append(s.Pending, api.Pending{Write: r.IntN(5) == 0, Slot: []int{slot, 1}[r.IntN(2)], Frame: r.IntN(40)})
+		}
+		s.Objects[2] = r.IntN(5) / 4
+		check(t, s)
 	}
 }
 

@@ -374,5 +374,6 @@ func TestExamples(t *testing.T) {
 	} {
 		expect(t, [][2]string{{say(model.Allowed(parse(s))), say(want, "ok")}})
 	}
+	expect(t, [][2]string{{say(model.Alive(parse("queued 8 1, spawned 8 1, queued 1 2, spawned 1 2, queued 7 3"))), "[1 8] ok"}, {say(model.Waiting(parse("queued 8 1, queued 1 2"))), "[8 1] ok"}})
 	expect(t, [][2]string{{say(model.Alive(parse(four + ", queued 1 5, forked 1 2 5, read 2 3 0 0 0, killed 1 0"))), "[2] ok"}})
 }

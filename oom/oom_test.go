@@ -292,6 +292,11 @@ func TestKSafe(t *testing.T) {
 			}
 		}
 	}
+	exact := api.Config{Frames: 100, Low: 8, Slots: 5, Cap: 3, Queue: 16, Min: 16, LowMark: 17, High: 18, MapCap: 64}
+	expect(t, [][2]string{{say(oom.K(exact)), "100 ok"}, {say(oom.Safe(exact, 5)), "true ok"}, {say(oom.Safe(exact, 6)), "false ok"}})
+	exact.Min++
+	exact.LowMark, exact.High = 18, 19
+	expect(t, [][2]string{{say(oom.K(exact)), "101 ok"}, {say(oom.Safe(exact, 4)), "false ok"}, {say(oom.Safe(exact, 0)), "false ok"}})
 	for _, n := range []int{0, -1} {
 		expect(t, [][2]string{{say(oom.K(api.Config{})), "0 range"}, {say(oom.Safe(api.Config{}, n)), "false range"}})
 	}
