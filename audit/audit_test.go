@@ -384,6 +384,11 @@ func TestMarks(t *testing.T) {
 		s.Awake = c.awake
 		expect(t, [][2]string{{found(audit.All(s)), c.want}, {say(audit.Backed(s)), say(c.free+1, "ok")}})
 	}
+	s := short(7)
+	s.Config.LowMark = 7
+	expect(t, [][2]string{{found(audit.All(s)), "ok"}})
+	s.Config.LowMark = 8
+	expect(t, [][2]string{{found(audit.All(s)), "9:0.0.0 ok"}})
 }
 
 // short returns a rich snapshot with so many free frames: the others are pages of the process 4, and their leaves.
@@ -424,7 +429,7 @@ func some(r *rand.Rand) api.Command {
 func TestKernels(t *testing.T) {
 	for seed := range uint64(12) {
 		r := rand.New(rand.NewPCG(seed, 41))
-		c := []api.Config{config, {Frames: 24, Low: 6, Slots: 6, Cap: 1, Queue: 2, Min: 2, LowMark: 4, High: 8, MapCap: 64}, {Frames: 30, Low: 20, Slots: 20, Cap: 3, Queue: 8, Min: 5, LowMark: 9, High: 14, MapCap: 64}}[seed%3]
+		c := []api.Config{config, {Frames: 24, Low: 6, Slots: 6, Cap: 1, Queue: 2, Min: 2, LowMark: 4, High: 8, MapCap: 64}, {Frames: 30, Low: 20, Slots: 20, Cap: 3, Queue: 8, Min: 5, LowMark: 9, High: 14, MapCap: 64}, {Frames: 30, Low: 20, Slots: 20, Cap: 3, Queue: 9, Min: 5, LowMark: 9, High: 14, MapCap: 64}}[seed%4]
 		k, _ := kernel.New(c)
 		for range 300 {
 			cmd := some(r)

@@ -101,6 +101,19 @@ func aim(r *rand.Rand, s api.Snapshot, c api.Command) api.Command {
 			p := places[r.IntN(len(places))]
 			c.Proc, c.A = p.Proc, p.Page
 		}
+	case c.Kind == api.DoFork:
+		from, to := 0, 0
+		for i, p := range s.Procs {
+			switch swapped := slices.ContainsFunc(p.Entries[:], func(w uint64) bool { return w%4 == api.Swapped }); {
+			case p.State == api.Live && (swapped || from == 0):
+				from = i + 1
+			case p.State == api.Dead:
+				to = i + 1
+			}
+		}
+		if from > 0 && to > 0 {
+			c.Proc, c.A = from, to
+		}
 	case len(s.Requests) == 0:
 	case c.Kind == api.DoPick, c.Kind == api.DoComplete && r.IntN(2) == 0:
 		c = api.Command{Kind: api.DoPick, Proc: s.Requests[0].Command.Proc}
@@ -296,6 +309,57 @@ func TestOrphan(t *testing.T) {
 	}
 	b.step(api.DoComplete, 0, 0, 0)
 	b.serve(2, 5)
+}
+
+// The chapter's steps of kswapd, where only two frames are mapped: most frames are tables of pages on the disk.
+
+func TestFewMapped(t *testing.T) {
+	b := newBoth(t, api.Config{Frames: 18, Low: 5, Slots: 60, Cap: 1, Queue: 2, Min: 2, LowMark: 3, High: 5, MapCap: 64})
+	few := func() bool {
+		s := b.k.Snapshot()
+		return s.Awake && len(s.Active)+len(s.Inactive) == 2 && len(s.Requests)+len(s.Pending) == 0
+	}
+	for n := 0; n < 64 && !few(); n++ {
+		proc, page := 1+n/8, n%8*8
+		if page == 0 {
+			b.step(api.DoSpawn, proc, 0, 0)
+		}
+		for range 9 {
+			b.serve(proc, 1)
+			b.step(api.DoComplete, 0, 0, 0)
+		}
+		b.step(api.DoMap, proc, page, page)
+		b.step(api.DoWrite, proc, page, 1)
+		for range 12 {
+			b.serve(proc, 1)
+			b.step(api.DoComplete, 0, 0, 0)
+		}
+	}
+	if !few() {
+		t.Fatal(b.k.Snapshot())
+	}
+	b.step(api.DoPick, 0, 0, 0)
+	s := b.k.Snapshot()
+	if len(s.Inactive) != 1 {
+		t.Fatal(s)
+	}
+	frame := s.Inactive[0]
+	for i, p := range s.Procs {
+		for page, w := range p.Entries {
+			if e, _ := entry.Unpack(w); e.Kind == api.Present && e.Number == frame {
+				b.step(api.DoRead, i+1, page, 0)
+			}
+		}
+	}
+	b.step(api.DoPick, 0, 0, 0)
+	if s := b.k.Snapshot(); len(s.Inactive) != 0 || s.Active[0] != frame {
+		t.Fatal("it was referenced:", s)
+	}
+	b.step(api.DoPick, 0, 0, 0)
+	b.step(api.DoPick, 0, 0, 0)
+	if s := b.k.Snapshot(); len(s.Writes) != 1 {
+		t.Fatal("it was not referenced:", s)
+	}
 }
 
 // P37.2: as many objects as there may be, and how they go again.

@@ -269,7 +269,7 @@ func base(t *testing.T, r api.Request) api.Snapshot {
 
 func TestHeads(t *testing.T) {
 	for _, kind := range []int{0, api.DoSpawn, api.DoMap, api.DoRead, api.DoWrite, api.DoFork, api.DoKill} {
-		for _, a := range []int{-1, 0, 2, 8, 9, 63, 64} {
+		for _, a := range []int{-1, 0, 8, 9, 63, 64} {
 			for _, state := range []int{api.Wants, api.Holds, api.Claims, api.Reading} {
 				for _, frames := range [][]int{nil, {30}, {30, 31, 32}} {
 					for _, word := range []string{"-", "p39c", "p39w", "s3", "s4"} {
@@ -280,7 +280,13 @@ func TestHeads(t *testing.T) {
 						}
 						s.Writes = []api.WriteView{{Slot: 4, Frame: 38}}
 						check(t, s)
-						s.Refs[39] = 2
+						for n := range 2 {
+							s.Refs[39] = n + 1
+							check(t, s)
+						}
+						s.Pending = []api.Pending{{Slot: 5, Frame: 37}, {Slot: 6, Frame: 37}, {Write: true, Slot: 7, Frame: 36}}
+						check(t, s)
+						s.Pending = append(s.Pending, api.Pending{Slot: 0, Frame: 37})
 						check(t, s)
 						s.Pending = []api.Pending{{Slot: 4, Frame: 37}, {Slot: 3, Frame: 37}, {Write: true, Slot: 3, Frame: 36}, {Write: true, Slot: 4, Frame: 35}}
 						check(t, s)
@@ -318,9 +324,11 @@ func TestWritable(t *testing.T) {
 				s.Roles[f] = []int{api.Reserved, api.Orphan}[r.IntN(2)]
 			}
 		}
-		switch r.IntN(3) {
+		switch r.IntN(4) {
 		case 0:
 			s.Active, s.Inactive = nil, s.Active
+		case 2:
+			s.Inactive = slices.Clone(s.Active)
 		case 1:
 			s.Active = nil
 		}
